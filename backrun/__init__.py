@@ -1,0 +1,1 @@
+"""Backrun: reversible programs, machines and circuits."""

@@ -1,0 +1,29 @@
+"""The errors of the package."""
+
+
+class BackrunError(ValueError):
+    """The base of all errors of the package."""
+
+
+class TextError(BackrunError):
+    """A text that cannot be read; at is the offset where reading stopped."""
+
+    def __init__(self, at):
+        BackrunError.__init__(self, f"the text cannot go on like this at offset {at}")
+        self.at = at
+
+
+class StepError(BackrunError):
+    """A step, or a change between steps, that cannot be done."""
+
+
+class PackError(BackrunError):
+    """Bytes that cannot be unpacked, from index at on, or a value that cannot be packed (-1)."""
+
+    def __init__(self, at):
+        BackrunError.__init__(self, f"packing or unpacking stopped at {at}")
+        self.at = at
+
+
+class ChainError(BackrunError):
+    """A chain that cannot be pebbled with the pebbles there are."""
