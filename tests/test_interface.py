@@ -1,0 +1,33 @@
+import importlib
+import inspect
+import unittest
+
+INTERFACE = {
+    "words": ("top(w)", "compute(op, w, x, y)"),
+    "programs": ("mentions(expression)", "is_name(text)", "statements(program)", "find_statement(program, path)"),
+    "faults": ("faults(program)",),
+    "text": ("show_program(program)", "show_expression(e)", "read_program(text)"),
+    "values": ("value_of(w, e, look)",),
+    "run": ("empty_store(program)", "is_store(program, value)", "run(program, store, *, fuel, backward=False)",
+            "trace(program, store, *, fuel, backward=False)", "reached(program, stores, *, fuel)"),
+    "inverse": ("inverse_body(body)", "inverse_statement(statement)", "inverse(program)"),
+}
+
+ERRORS = ("BackrunError", "TextError", "StepError", "PackError", "ChainError")
+
+
+class Interface(unittest.TestCase):
+    def test_functions(self):
+        for word, rows in INTERFACE.items():
+            module = importlib.import_module("backrun." + word)
+            for row in rows:
+                name = row.split("(")[0]
+                function = getattr(module, name)
+                self.assertEqual(name + str(inspect.signature(function)), row)
+                self.assertEqual(function.__module__, "backrun." + word)
+
+    def test_errors(self):
+        module = importlib.import_module("backrun.errors")
+        for name in ERRORS:
+            self.assertTrue(inspect.isclass(getattr(module, name)))
+            self.assertEqual(getattr(module, name).__module__, "backrun.errors")
