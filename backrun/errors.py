@@ -27,3 +27,11 @@ class PackError(BackrunError):
 
 class ChainError(BackrunError):
     """A chain that cannot be pebbled with the pebbles there are."""
+
+
+class CodeError(BackrunError):
+    """A text of a machine's code that cannot be read; line is the number of the line, counted from 1."""
+
+    def __init__(self, line):
+        BackrunError.__init__(self, f"line {line} cannot be read as code")
+        self.line = line

@@ -24,6 +24,11 @@ def is_integer(value, low, high):
     return low <= value <= high
 
 
+def is_count(value):
+    """Whether a value is an integer from 0; True and False are none."""
+    return is_integer(value, 0, value)
+
+
 def is_word(value, w):
     """Whether a value is a word of width w."""
     return is_integer(value, 0, top(w))

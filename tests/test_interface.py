@@ -11,9 +11,15 @@ INTERFACE = {
     "run": ("empty_store(program)", "is_store(program, value)", "run(program, store, *, fuel, backward=False)",
             "trace(program, store, *, fuel, backward=False)", "reached(program, stores, *, fuel)"),
     "inverse": ("inverse_body(body)", "inverse_statement(statement)", "inverse(program)"),
+    "tidy": ("apply_step(program, step)", "check_steps(program, steps)", "tidy(program)"),
+    "machine": ("machine_faults(value)", "step(machine, state)", "back(machine, state)",
+                "run_machine(machine, state, *, fuel)", "run_back(machine, state, steps)",
+                "compute_low(op, width, x, y)"),
+    "listing": ("show_code(machine)", "read_code(text)"),
+    "lower": ("compile_program(program, *, cells=4096)",),
 }
 
-ERRORS = ("BackrunError", "TextError", "StepError", "PackError", "ChainError")
+ERRORS = ("BackrunError", "TextError", "StepError", "PackError", "ChainError", "CodeError")
 
 
 class Interface(unittest.TestCase):
