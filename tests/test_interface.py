@@ -17,6 +17,14 @@ INTERFACE = {
                 "compute_low(op, width, x, y)"),
     "listing": ("show_code(machine)", "read_code(text)"),
     "lower": ("compile_program(program, *, cells=4096)",),
+    "frames": ("lay(program, build, store, cells)", "read_store(program, build, state)",
+               "is_clean(program, build, state)"),
+    "circuits": ("circuit_faults(value)", "run_circuit(circuit, bits)", "inverse_circuit(circuit)",
+                 "then(first, second)", "on_wires(circuit, wires, places)", "counts(circuit)", "depth(circuit)",
+                 "touched(circuit)"),
+    "tables": ("as_number(bits)", "as_bits(number, wires)", "table(circuit)", "from_table(row)",
+               "parting(first, second)"),
+    "adders": ("add_into(target, source, controls)", "less_into(wire, first, second, spare, controls)"),
 }
 
 ERRORS = ("BackrunError", "TextError", "StepError", "PackError", "ChainError", "CodeError")

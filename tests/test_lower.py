@@ -400,6 +400,22 @@ class Frames(unittest.TestCase):
         # backward it is the other way round
         self.assertEqual(self.outcomes(inverse(made), store())[-2:], [("frame", (0, 0)), DONE])
 
+    def test_no_cell_is_wasted(self):
+        # a cell for the return offset, one for each param and each local that is there
+        def needed(made, first):
+            cells = size_of_globals(made)
+            while ends_like_the_run(self, made, build_of(self, made, cells), first, cells)[0] == "frame":
+                cells += 1
+            return cells - size_of_globals(made)
+        self.assertEqual(needed(program((plus("a", var("b")),)), store()), 1)
+        local = ("local", "t", num(2), (("local", "u", num(2), (), num(2)),), num(2))
+        self.assertEqual(needed(program((local, local)), store()), 3)
+        made = program((("local", "t", num(2), (("call", "p", ("a", "t")),), num(2)),), procedures=(
+            ("p", (("x", 0), ("y", 0)), (("local", "u", num(2), (), num(2)),)),))
+        self.assertEqual(needed(made, store()), 2 + 4)
+        made = (8, (("n", 0),), (("main", (), (("call", "down", ("n",)),)), countdown("down")))
+        self.assertEqual(needed(made, (("n", 9),)), 1 + 2 * 10)
+
     def test_what_fails_first(self):
         made = program((("if", num(1), (), (), num(0)), ("call", "large", ())), procedures=(
             ("large", (), (("local", "t", num(2), (("local", "u", num(2), (), num(2)),), num(2)),)),))
