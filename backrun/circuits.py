@@ -1,6 +1,6 @@
 """Circuits of reversible gates."""
 
-from backrun.forms import is_count, is_integer
+from backrun.forms import is_count, is_integer, is_whole
 
 
 def circuit_faults(value):
@@ -39,11 +39,6 @@ def is_pair(value):
     return isinstance(value, tuple) and len(value) == 2
 
 
-def is_whole(value):
-    """Whether a value is an integer; True and False are none."""
-    return isinstance(value, int) and not isinstance(value, bool)
-
-
 def is_control(value):
     """Whether a value is a pair of a wire's number and 0 or 1."""
     return is_pair(value) and is_whole(value[0]) and is_integer(value[1], 0, 1)
@@ -59,7 +54,10 @@ def run_circuit(circuit, bits):
     """The tuple of the bits behind all gates."""
     now = list(bits)
     for target, controls in circuit[1]:
-        if all([now[wire] == value for wire, value in controls]):
+        for wire, value in controls:
+            if now[wire] != value:
+                break
+        else:
             now[target] = 1 - now[target]
     return tuple(now)
 

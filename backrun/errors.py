@@ -35,3 +35,7 @@ class CodeError(BackrunError):
     def __init__(self, line):
         BackrunError.__init__(self, f"line {line} cannot be read as code")
         self.line = line
+
+
+class NoCircuit(BackrunError):
+    """A program for which there is no circuit: too wide, with loops, or with calls that lead back."""

@@ -17,11 +17,14 @@ STATEMENT_LENGTHS = {
 }
 
 
+def is_whole(value):
+    """Whether a value is an integer; True and False are none."""
+    return isinstance(value, int) and not isinstance(value, bool)
+
+
 def is_integer(value, low, high):
     """Whether a value is an integer from low to high; True and False are none."""
-    if not isinstance(value, int) or isinstance(value, bool):
-        return False
-    return low <= value <= high
+    return is_whole(value) and low <= value <= high
 
 
 def is_count(value):
@@ -58,13 +61,17 @@ def looks_like_statement(value):
 
 def is_expression(value, w):
     """Whether a value is an expression with words of width w."""
-    if not looks_like_expression(value):
-        return False
-    if value[0] == "int":
-        return is_word(value[1], w)
-    if value[0] in ("var", "cell") and not is_name(value[1]):
-        return False
-    return all(is_expression(part, w) for part in parts(value))
+    waiting = [value]
+    while waiting:
+        part = waiting.pop()
+        if not looks_like_expression(part):
+            return False
+        if part[0] == "int" and not is_word(part[1], w):
+            return False
+        if part[0] in ("var", "cell") and not is_name(part[1]):
+            return False
+        waiting.extend(parts(part))
+    return True
 
 
 def is_place(value, w):

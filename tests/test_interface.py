@@ -24,10 +24,16 @@ INTERFACE = {
                  "touched(circuit)"),
     "tables": ("as_number(bits)", "as_bits(number, wires)", "table(circuit)", "from_table(row)",
                "parting(first, second)"),
+    "synth": ("can_synthesize(program)", "synthesize(program)", "store_bits(program, layout, store)",
+              "bits_store(program, layout, bits)"),
     "adders": ("add_into(target, source, controls)", "less_into(wire, first, second, spare, controls)"),
+    "steps": ("apply_step(circuit, step)", "apply_steps(circuit, steps)"),
+    "shrink": ("cancelling(circuit)", "merging(circuit)", "shrink(circuit)"),
+    "plain": ("plain_faults(value)", "run_plain(program, values, *, fuel)"),
 }
 
-ERRORS = ("BackrunError", "TextError", "StepError", "PackError", "ChainError", "CodeError")
+ERRORS = ("BackrunError", "TextError", "StepError", "PackError", "ChainError", "CodeError",
+          "NoCircuit")
 
 
 class Interface(unittest.TestCase):
