@@ -36,8 +36,7 @@ def run(program, store, *, fuel, backward=False):
     while steps < fuel and walk.due is not None:
         walk.step()
         steps += 1
-    ending = ("none",) if walk.ending is None else walk.ending
-    return walk.store(), ending, steps
+    return walk.store(), walk.end(), steps
 
 
 def trace(program, store, *, fuel, backward=False):

@@ -57,7 +57,7 @@ class Search:
             self.look_from(at)
         pair = self.first_pair()
         while pair is not None:
-            self.join(pair[0], pair[1])
+            self.unite(pair[0], pair[1])
             pair = self.first_pair()
         return (self.wires, tuple(self.gates)), tuple(self.steps)
 
@@ -86,7 +86,7 @@ class Search:
         found = [(partner, at) for at, partner in enumerate(self.partners) if partner >= 0]
         return min(found, default=None)
 
-    def join(self, early, late):
+    def unite(self, early, late):
         """Bring a gate behind an earlier one, and do the step with the two."""
         for at in range(late - 1, early, -1):
             self.steps.append(("exchange", at))

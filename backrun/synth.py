@@ -28,8 +28,8 @@ def synthesize(program):
 
 def store_bits(program, layout, store):
     """The tuple of all bits: the store's words on their wires, 0 elsewhere."""
-    (wires, _), inputs, _ = layout
-    bits = [0] * wires
+    circuit, inputs, _ = layout
+    bits = [0] * circuit[0]
     for places, word in zip(inputs, store_words(store)):
         for wire, bit in zip(places, as_bits(word, len(places))):
             bits[wire] = bit
@@ -72,22 +72,27 @@ def calls_in(body):
 
 def call_order(bodies):
     """The names of the procedures that main reaches, each behind those that it calls; None if a call leads back."""
-    callees = {name: [called for called, _ in calls_in(body)] for name, body in bodies.items()}
-    reached = ["main"]
+    callees = {name: called_names(body) for name, body in bodies.items()}
+    waiting = ["main"]
     found = {"main": True}
-    while reached:
-        name = reached.pop()
-        for called in callees[name]:
+    while waiting:
+        caller = waiting.pop()
+        for called in callees[caller]:
             if called not in found:
                 found[called] = True
-                reached.append(called)
+                waiting.append(called)
     order = []
     while len(order) < len(found):
-        ready = [name for name in found if name not in order and all([called in order for called in callees[name]])]
+        ready = [name for name in found if name not in order and all([other in order for other in callees[name]])]
         if not ready:
             return None
         order.extend(ready)
     return order
+
+
+def called_names(body):
+    """The names of the procedures that a body calls or uncalls."""
+    return [name for name, _ in calls_in(body)]
 
 
 def words_on(declared, width, first):
@@ -103,7 +108,7 @@ def words_on(declared, width, first):
 def tests_in(body, tests):
     """How many tests may fail in a body; tests has the numbers of the procedures that it calls."""
     own = [statement for statement in inner_statements(body) if statement[0] in ("if", "local")]
-    return len(own) + sum([tests[name] for name, _ in calls_in(body)])
+    return len(own) + sum([tests[name] for name in called_names(body)])
 
 
 class Synthesis:

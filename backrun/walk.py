@@ -37,7 +37,7 @@ class Block:
 
 
 class Walk:
-    """A run: due is what takes the next step, or None at the end; ending is None before the end.
+    """A run: due is what takes the next step, or None at the end; result is None before the end.
 
     The bodies under way stand on a stack of their own, since calls may nest deeper than Python's.
     """
@@ -49,7 +49,7 @@ class Walk:
         at, _, body = self.procedures["main"]
         self.blocks = [Block(body, (at,), self.main, None, 0)]
         self.due = None
-        self.ending = None
+        self.result = None
         self.settle()
 
     def step(self):
@@ -68,9 +68,13 @@ class Walk:
             block.frame.give_back()
         return store_of(self.declared, self.main.look)
 
+    def end(self):
+        """The end of a run that stops here."""
+        return ("none",) if self.result is None else self.result
+
     def settle(self):
         """Do all that takes no step, up to the next step or the end."""
-        while self.due is None and self.ending is None:
+        while self.due is None and self.result is None:
             block = self.blocks[-1]
             if block.has_next():
                 self.due = block.next_due()
@@ -120,7 +124,7 @@ class Walk:
         """Go on behind a body that is done."""
         due = block.owner
         if due is None:
-            self.ending = ("done",)
+            self.result = ("done",)
         elif due.statement[0] == "if":
             if (due.frame.late_test(due.statement) != 0) != (block.branch == 0):
                 self.fail("exit", due)
@@ -145,7 +149,7 @@ class Walk:
 
     def fail(self, word, due):
         """End the run at a test that fails."""
-        self.ending = ("fail", word, due.path)
+        self.result = ("fail", word, due.path)
 
 
 def look_of(store):

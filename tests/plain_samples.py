@@ -3,14 +3,7 @@
 import random
 
 from backrun.words import compute
-
-
-def num(word):
-    return ("int", word)
-
-
-def var(name):
-    return ("var", name)
+from tests.samples import num, var
 
 
 def put(name, e):
@@ -29,13 +22,6 @@ def nested_ifs(depth, inside=()):
     for _ in range(depth):
         body = (("if", num(1), body, ()),)
     return body
-
-
-def nested_nots(depth):
-    e = num(1)
-    for _ in range(depth - 1):
-        e = ("not", e)
-    return e
 
 
 class NoFuel(Exception):

@@ -30,7 +30,14 @@ INTERFACE = {
     "steps": ("apply_step(circuit, step)", "apply_steps(circuit, steps)"),
     "shrink": ("cancelling(circuit)", "merging(circuit)", "shrink(circuit)"),
     "plain": ("plain_faults(value)", "run_plain(program, values, *, fuel)"),
+    "embed": ("embed(program, room)",),
+    "pebbles": ("is_pebbling(n, room, moves)", "least_moves(n, room)", "pebbling(n, room)", "chain_value(chain, word)",
+                "chain_program(chain, moves, room)"),
+    "packing": ("pack(value)", "unpack(data)"),
 }
+
+HOUSE = ("forward(self, count)", "back(self, count)", "where(self)", "store(self)", "ending(self)", "next_path(self)",
+         "until(self, path, *, limit=10000)", "before(self, path, *, limit=10000)", "poke(self, name, value)")
 
 ERRORS = ("BackrunError", "TextError", "StepError", "PackError", "ChainError", "CodeError",
           "NoCircuit")
@@ -45,6 +52,21 @@ class Interface(unittest.TestCase):
                 function = getattr(module, name)
                 self.assertEqual(name + str(inspect.signature(function)), row)
                 self.assertEqual(function.__module__, "backrun." + word)
+
+    def test_the_house(self):
+        house = importlib.import_module("backrun.house").House
+        self.assertEqual(house.__module__, "backrun.house")
+        self.assertEqual(str(inspect.signature(house)), "(program, store)")
+        for row in HOUSE:
+            name = row.split("(")[0]
+            self.assertIn(name, vars(house))
+            self.assertEqual(name + str(inspect.signature(vars(house)[name])), row)
+
+    def test_the_ops(self):
+        words = importlib.import_module("backrun.words").OPS
+        machine = importlib.import_module("backrun.machine").OPS
+        self.assertEqual((type(words), len(words)), (tuple, 10))
+        self.assertEqual(type(machine), tuple)
 
     def test_errors(self):
         module = importlib.import_module("backrun.errors")

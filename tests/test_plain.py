@@ -3,8 +3,8 @@ import itertools
 import unittest
 
 from backrun.plain import plain_faults, run_plain
-from tests.plain_samples import A, B, C, PlainMaker, by_the_words, cell_free_ops, nested_ifs, nested_nots, num, put, var
-from tests.samples import cell
+from tests.plain_samples import A, B, C, PlainMaker, by_the_words, cell_free_ops, nested_ifs, put
+from tests.samples import cell, nested_nots, num, var
 
 OTHERS = (None, True, False, 0, 1, -1, 10 ** 20, "", "a", "set", b"", (), [], {}, 1.5, (None,), (1, 2, 3), [0, ()], ((), ()))
 
