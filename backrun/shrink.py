@@ -117,8 +117,8 @@ class Search:
             return True
         if joined is None or self.floors[at] > early:
             return False
-        gate = self.gates[at]
-        return at == early or self.fits(joined, gate) or not can_exchange(joined, gate)
+        # A gate that both of them let pass is let pass by the one that they become, too.
+        return at == early or self.fits(joined, self.gates[at])
 
 
 def moved_up(numbers, gone):
