@@ -92,7 +92,9 @@ class Search:
             self.steps.append(("exchange", at))
         self.steps.append((self.word, early))
         joined = merged_gate(self.gates[early], self.gates[late])
-        stale = [at for at in range(early, len(self.gates)) if at != late and self.is_stale(at, early, late, joined)]
+        # What has its floor behind both of them has its partner there, too.
+        near = [at for at in range(early, len(self.gates)) if self.floors[at] <= late and at != late]
+        stale = [at for at in near if self.is_stale(at, early, late, joined)]
         self.take_out(late)
         stale = moved_up(stale, late)
         if joined is None:
